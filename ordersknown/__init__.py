@@ -1,0 +1,1 @@
+"""Orders given at once: what can be known, step by step."""
