@@ -1,16 +1,17 @@
 """Units, their orders as given, and the orders as they count on a board.
 
-An order as given is (HOLD,), (MOVE, q, t, water), (STAY, q) or (AID, a, q).
-An order as it counts is (HOLD,), (MOVE, q), (BY_WATER, q), (STAY, q) or (AID, a, q).
+An order as given is (HOLD,), (MOVE, q, t, water), (STAY, q), (AID, a, q) or (CARRY, a, q).
+An order as it counts is (HOLD,), (MOVE, q), (BY_WATER, q), (STAY, q), (AID, a, q) or (CARRY, a, q).
 """
 
-from ordersknown.board import COAST
+from ordersknown.board import COAST, SEA
 
 HOLD = "hold"
 MOVE = "move"
 BY_WATER = "by water"
 STAY = "stay"
 AID = "aid"
+CARRY = "carry"
 
 
 class Unit:
@@ -47,6 +48,8 @@ def order_as_it_counts(board, unit):
         return order
     if order[0] == AID and aid_counts(board, unit, order[1], order[2]):
         return order
+    if order[0] == CARRY and carry_counts(board, unit, order[1], order[2]):
+        return order
     return (HOLD,)
 
 
@@ -73,3 +76,7 @@ def army_move_as_it_counts(board, unit, order):
 
 def aid_counts(board, unit, a, q):
     return a != q and a != unit.province and reaches(board, unit, q)
+
+
+def carry_counts(board, unit, a, q):
+    return unit.fleet == 1 and board.kinds[unit.province] == SEA and a != q

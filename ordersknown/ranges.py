@@ -11,15 +11,30 @@ NUMBERS = {
     7: ("p", "q", "t", "water"),
     8: ("p", "q"),
     9: ("p", "a", "q"),
+    10: ("p", "a", "q"),
+    11: (),
+    12: ("what", "p"),
+    13: (),
+    14: (),
+    15: (),
+    16: ("p",),
+    17: (),
+    18: ("p",),
+    19: (),
 }
 
 # Every range begins at 0; here is how many numbers it has.
 # What is not named here is a province, so its range grows with the board.
-SIZES = {"kind": 3, "s": 4, "t": 4, "power": 7, "fleet": 2, "water": 2}
+SIZES = {"kind": 3, "s": 4, "t": 4, "power": 7, "fleet": 2, "water": 2, "what": 3}
 
 
 def count_of_numbers(place):
-    return len(NUMBERS[place])
+    """Behind a place that is none no numbers are looked for."""
+    return len(NUMBERS.get(place, ()))
+
+
+def is_call(place, numbers):
+    return place in NUMBERS and len(numbers) == count_of_numbers(place)
 
 
 def all_in_range(place, numbers, provinces):

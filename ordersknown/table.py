@@ -1,9 +1,10 @@
 """A line of calls on one new table, handed in as one list and answered as one list."""
 
 from ordersknown.calls import Table, do_call
-from ordersknown.ranges import all_in_range, count_of_numbers
+from ordersknown.ranges import all_in_range, count_of_numbers, is_call
 
 OUT_OF_RANGE = -1
+NO_CALL = -8
 
 
 def answers(calls):
@@ -22,6 +23,8 @@ def answers(calls):
 
 
 def answer_call(table, place, numbers):
+    if not is_call(place, numbers):
+        return [NO_CALL]
     # A call's own refusals index by its numbers, so the ranges come first.
     if not all_in_range(place, numbers, len(table.board.kinds)):
         return [OUT_OF_RANGE]

@@ -3,9 +3,11 @@
 import random
 import unittest
 
-from ordersknown.table import answers
+from ordersknown.calls import Table
+from ordersknown.table import answer_call, answers
 from tests.helper import (
-    AID, ARMY, CLEAR, COAST, FLEET, GONE, HOLD, INLAND, LAND, LEAST, MOST, MOVE, OCEAN, PROVINCE, SEA, STAY, UNIT,
+    AID, ALL, ARMY, BOUNDS, CARRY, CLEAR, COAST, COUNT, FLEET, FORGET, GONE, HOLD, INLAND, KNOWN, LAND, LEAST, LOOK,
+    MOST, MOVE, OCEAN, PASS, PROVINCE, SEA, STAY, SUPPORT, UNIT, UNKNOWN,
     ask, flat, last, provinces, state, table_after)
 
 # Provinces 0 and 1 are coasts, 2 is a sea, 3 is inland; armies in 0 and 3, a fleet in 2; 1 is free.
@@ -23,7 +25,12 @@ GOOD = (
     ((MOVE, 0, 1, 0, 0), (4, 4, 4, 2)),
     ((STAY, 0, 1), (4, 4)),
     ((AID, 0, 3, 1), (4, 4, 4)),
+    ((CARRY, 2, 0, 1), (4, 4, 4)),
+    ((LOOK, 0, 3), (3, 4)),
+    ((BOUNDS, 3), (4,)),
+    ((SUPPORT, 3), (4,)),
 )
+WITHOUT_NUMBERS = ((CLEAR,), (FORGET,), (PASS,), (ALL,), (KNOWN,), (UNKNOWN,), (COUNT,))
 
 
 def some_calls(seed):
@@ -31,12 +38,13 @@ def some_calls(seed):
     source = random.Random(seed)
     sizes = {call[0]: ranges for call, ranges in GOOD}
     calls = provinces(*[source.randrange(3) for n in range(12)])
-    while len(calls) < 399:
-        place = source.choice([PROVINCE] + [LAND, SEA, UNIT, UNIT, GONE, HOLD, MOVE, STAY, AID] * 3)
+    while len(calls) < 400:
+        place = source.choice([PROVINCE] + [LAND, SEA, UNIT, UNIT, GONE, HOLD, MOVE, STAY, AID, CARRY, LOOK, BOUNDS,
+                                            SUPPORT] * 3)
         numbers = [source.randrange(-1, 14) if size == 4 and source.randrange(3) else source.randrange(size)
                    for size in sizes[place]]
         calls.append((place, *numbers))
-    calls.insert(250, (CLEAR,))
+    calls[250:257] = WITHOUT_NUMBERS
     return calls
 
 
@@ -46,9 +54,12 @@ class Form(unittest.TestCase):
         self.assertEqual(answers(calls), [1, 0, 2, 0, 0, 2, 0, 1, 1, 0, 1, 0, 1, 0, 1, -5, 1, -1])
 
     def test_every_call_that_is_done_answers_0(self):
-        for call, ranges in GOOD[1:] + (((CLEAR,), ()),):
-            self.assertEqual(last(BOARD + [call]), [0], call)
-        self.assertEqual(last(BOARD + [(PROVINCE, INLAND)]), [0, 4])
+        told = {PROVINCE: [4], LOOK: [0], PASS: [0], ALL: [0], KNOWN: [0] * 6, BOUNDS: [1, 1], UNKNOWN: [0],
+                SUPPORT: [0, 0], COUNT: [0]}
+        calls = [call for call, ranges in GOOD] + list(WITHOUT_NUMBERS)
+        self.assertEqual(sorted(call[0] for call in calls), list(range(20)))
+        for call in calls:
+            self.assertEqual(last(BOARD + [call]), [0] + told.get(call[0], []), call)
 
     def test_answers_are_plain_whole_numbers_in_a_list(self):
         answered = answers(flat(some_calls(1)))
@@ -91,6 +102,31 @@ class Form(unittest.TestCase):
         self.assertEqual(answers([1, 0]), [2, 0, 0])
 
 
+class NoCall(unittest.TestCase):
+    """Such calls are not to be handed in; if they are, they're refused and nothing breaks."""
+
+    def test_a_place_that_is_none(self):
+        for place in (-1, 20, LEAST, MOST):
+            for numbers in ([], [0], [0, 0]):
+                self.assertEqual(answer_call(Table(), place, numbers), [-8])
+
+    def test_another_count_of_numbers(self):
+        for call in [call for call, ranges in GOOD] + list(WITHOUT_NUMBERS):
+            table = table_after(BOARD)
+            self.assertEqual(answer_call(table, call[0], list(call[1:]) + [0]), [-8])
+            if len(call) > 1:
+                self.assertEqual(answer_call(table, call[0], list(call[1:-1])), [-8])
+            self.assertEqual(state(table), state(table_after(BOARD)))
+
+    def test_in_a_list(self):
+        self.assertEqual(answers([20, 1, 0, -3, 19]), [1, -8, 2, 0, 0, 1, -8, 2, 0, 0])
+        self.assertEqual(answers([1, 0, 4, 0, 0]), [2, 0, 0, 1, -8])
+
+    def test_it_is_looked_at_ahead_of_the_ranges(self):
+        self.assertEqual(answer_call(table_after(BOARD), HOLD, [99, 0]), [-8])
+        self.assertEqual(answer_call(table_after(BOARD), LAND, [99]), [-8])
+
+
 class Ranges(unittest.TestCase):
     def test_each_number_outside_its_range_is_refused(self):
         before = state(table_after(BOARD))
@@ -126,6 +162,7 @@ class Ranges(unittest.TestCase):
             (UNIT, 7, ARMY, 2, 0), (UNIT, 0, ARMY, 0, 4), (UNIT, 0, 2, 0, 0), (UNIT, -1, FLEET, 3, 0),
             (MOVE, 1, 4, 0, 0), (MOVE, 1, 0, 4, 0), (MOVE, 1, 0, 0, 2), (MOVE, 1, -1, 0, 0),
             (STAY, 1, 4), (STAY, 1, -1), (AID, 1, 4, 0), (AID, 1, 0, 4), (AID, 1, -1, 0),
+            (CARRY, 1, 4, 0), (CARRY, 1, 0, 4), (CARRY, 1, -1, 0), (LOOK, 3, 1), (LOOK, -1, 1),
         )
         for call in cases:
             self.assertEqual(last(BOARD + [call]), [-1], call)

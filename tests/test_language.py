@@ -148,6 +148,26 @@ class Language(unittest.TestCase):
         for name, text in texts.items():
             self.assertEqual(faults_of_file(text, methods), [], name)
 
+    def test_no_two_files_draw_from_one_another(self):
+        drawn = {path.stem: {node.module.split(".")[1] for node in ast.parse(path.read_text(encoding="utf-8")).body
+                             if isinstance(node, ast.ImportFrom)} for path in PACKAGE.glob("*.py")}
+        while drawn:
+            free = [name for name, others in drawn.items() if not others & set(drawn)]
+            self.assertNotEqual(free, [], drawn)
+            drawn = {name: others for name, others in drawn.items() if name not in free}
+
+    def test_a_name_is_imported_from_the_file_that_defines_it(self):
+        trees = {path.stem: ast.parse(path.read_text(encoding="utf-8")) for path in PACKAGE.glob("*.py")}
+        defined = {name: {node.name for node in tree.body if isinstance(node, (ast.FunctionDef, ast.ClassDef))}
+                   | {node.targets[0].id for node in tree.body if isinstance(node, ast.Assign)}
+                   for name, tree in trees.items()}
+        for name, tree in trees.items():
+            for node in [row for row in tree.body if isinstance(row, ast.ImportFrom)]:
+                names = {alias.name for alias in node.names}
+                self.assertLessEqual(names, defined[node.module.split(".")[1]], name)
+                used = {n.id for n in ast.walk(tree) if isinstance(n, ast.Name)}
+                self.assertLessEqual(names, used, name)
+
     def test_a_fault_is_seen(self):
         for text in ("import sys\n", "x = 1\nx = 2\n", "def f(*a):\n    return a\n", "def f(x):\n    del x\n",
                      "def f(x):\n    return x / 2\n", "def f(x):\n    return hash(x)\n", "# type\n", "y = 0.5\n",

@@ -1,10 +1,10 @@
-"""Promises 4 and 5, and of 6 to 10 hold, move, stay, aid; and what these orders count as."""
+"""Promises 4 to 10: unit, gone, the orders hold, move, stay, aid, carry; and what these orders count as."""
 
 import unittest
 
 from ordersknown.orders import order_as_it_counts, reaches
 from tests.helper import (
-    AID, ARMY, COAST, FLEET, GONE, HOLD, INLAND, LAND, MOVE, OCEAN, SEA, STAY, UNIT,
+    AID, ARMY, CARRY, COAST, FLEET, GONE, HOLD, INLAND, LAND, MOVE, OCEAN, SEA, STAY, UNIT,
     ask, last, provinces, state, table_after)
 
 KINDS = provinces(INLAND, OCEAN, COAST)
@@ -81,7 +81,7 @@ class Gone(unittest.TestCase):
 class Orders(unittest.TestCase):
     def test_no_unit(self):
         board = KINDS + [(UNIT, 0, ARMY, 0, 0)]
-        for call in ((HOLD, 2), (MOVE, 2, 0, 0, 0), (STAY, 2, 0), (AID, 2, 0, 1)):
+        for call in ((HOLD, 2), (MOVE, 2, 0, 0, 0), (STAY, 2, 0), (AID, 2, 0, 1), (CARRY, 2, 0, 1)):
             self.assertEqual(last(board + [call]), [-5], call)
             self.assertEqual(state(table_after(board + [call])), state(table_after(board)))
 
@@ -89,7 +89,7 @@ class Orders(unittest.TestCase):
         board = KINDS + [(UNIT, 0, ARMY, 0, 0), (UNIT, 1, FLEET, 2, 0)]
         given = (
             ((MOVE, 0, 2, 3, 1), ("move", 2, 3, 1)), ((STAY, 0, 2), ("stay", 2)),
-            ((AID, 0, 2, 1), ("aid", 2, 1)), ((HOLD, 0), ("hold",)))
+            ((AID, 0, 2, 1), ("aid", 2, 1)), ((CARRY, 0, 1, 2), ("carry", 1, 2)), ((HOLD, 0), ("hold",)))
         for first, unused in given:
             for call, order in given:
                 self.assertEqual(ask(board + [first, call])[5:], [[0], [0]])
@@ -100,13 +100,15 @@ class Orders(unittest.TestCase):
     def test_an_order_that_counts_as_hold_is_done_too(self):
         board = KINDS + [(UNIT, 0, ARMY, 0, 0), (UNIT, 1, FLEET, 2, 3)]
         calls = [(MOVE, 0, 0, 0, 0), (MOVE, 0, 1, 3, 1), (MOVE, 2, 0, 0, 0), (MOVE, 2, 2, 1, 1), (STAY, 0, 0),
-                 (STAY, 2, 0), (AID, 0, 0, 0), (AID, 0, 1, 1), (AID, 2, 2, 1), (AID, 2, 1, 2)]
+                 (STAY, 2, 0), (AID, 0, 0, 0), (AID, 0, 1, 1), (AID, 2, 2, 1), (AID, 2, 1, 2),
+                 (CARRY, 0, 1, 2), (CARRY, 2, 0, 1), (CARRY, 2, 1, 1)]
         self.assertEqual(ask(board + calls)[5:], [[0]] * len(calls))
 
     def test_a_unit_may_be_ordered_at_both_ends_of_the_provinces(self):
         board = provinces(*[COAST] * 40) + [(UNIT, 0, ARMY, 0, 0), (UNIT, 0, ARMY, 39, 0)]
         calls = [(HOLD, 39), (MOVE, 39, 0, 0, 0), (MOVE, 0, 39, 3, 1), (STAY, 39, 0), (STAY, 0, 39),
-                 (AID, 39, 0, 1), (AID, 0, 39, 1), (AID, 0, 1, 39), (GONE, 39), (GONE, 0)]
+                 (AID, 39, 0, 1), (AID, 0, 39, 1), (AID, 0, 1, 39),
+                 (CARRY, 39, 0, 1), (CARRY, 0, 39, 1), (CARRY, 0, 1, 39), (GONE, 39), (GONE, 0)]
         self.assertEqual(ask(board + calls)[42:], [[0]] * len(calls))
 
 
@@ -186,6 +188,17 @@ class Counts(unittest.TestCase):
         self.assertEqual(self.counted(army, (AID, 2, 3, 2)), ("hold",))
         self.assertEqual(self.counted(army, (AID, 2, 3, 4)), ("hold",))
         self.assertEqual(self.counted((UNIT, 0, FLEET, 1, 0), (AID, 1, 5, 4)), ("aid", 5, 4))
+
+    def test_a_carry(self):
+        fleet = (UNIT, 0, FLEET, 1, 0)
+        for a, q in ((2, 3), (3, 2), (5, 4), (0, 2), (1, 2), (2, 1)):
+            self.assertEqual(self.counted(fleet, (CARRY, 1, a, q)), ("carry", a, q))
+            self.assertEqual(self.counted((UNIT, 0, FLEET, 1, 3), (CARRY, 1, a, q)), ("carry", a, q))
+            self.assertEqual(self.counted((UNIT, 0, FLEET, 2, 0), (CARRY, 2, a, q)), ("hold",))
+            self.assertEqual(self.counted((UNIT, 0, ARMY, 2, 0), (CARRY, 2, a, q)), ("hold",))
+            self.assertEqual(self.counted((UNIT, 0, ARMY, 0, 0), (CARRY, 0, a, q)), ("hold",))
+        for a in range(6):
+            self.assertEqual(self.counted(fleet, (CARRY, 1, a, a)), ("hold",))
 
     def test_a_link_laid_behind_the_order_counts(self):
         army = (UNIT, 0, ARMY, 5, 0)
